@@ -1,0 +1,1 @@
+"""Matchlines: two books compared, at every price at once."""

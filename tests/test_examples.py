@@ -1,0 +1,77 @@
+"""The examples of the document, as they stand there, and those of README.md."""
+
+import ast
+import doctest
+import pathlib
+import unittest
+
+BOOKS = r"""
+    >>> from matchlines.books import amounts_of, is_line, lines_of, sequence
+    >>> own, other = [(1, 4, 100), (2, 0, 100), (3, 2, -5)], [(1, 3, 100), (2, 4, 100), (9, 1, 7)]
+    >>> [is_line((1, 4, 100)), is_line((1, 4, 0)), is_line((1, -4, 100))]
+    [True, False, False]
+    >>> [(side, line[0]) for side, line in sequence(own, other)]
+    [('own', 2), ('other', 9), ('own', 3), ('other', 1), ('own', 1), ('other', 2)]
+    >>> [lines_of(own, 100), amounts_of(own, other)]
+    [[(2, 0, 100), (1, 4, 100)], [100]]
+"""
+
+MATCHINGS = r"""
+    >>> from matchlines.matchings import can_be_paired, cost_of, in_sequence, is_matching, worth_of
+    >>> own, other = [(1, 0, 100), (2, 4, 100)], [(1, 3, 100), (2, 5, 100)]
+    >>> [in_sequence(own, other, [2, 1], [1, 2]), cost_of(own, other, [(1, 1), (2, 2)])]
+    [[(1, 1), (2, 2)], 4]
+    >>> [is_matching(own, other, [(1, 2)]), is_matching(own, other, [(1, 2), (2, 2)]), worth_of(own, other, [(2, 1)], 3)]
+    [True, False, 2]
+    >>> in_sequence(own, other, [1], [1, 2])
+    raises Unpaired(amount=100)
+"""
+
+
+def examples_in(text):
+    """Pairs of a command and of what the document shows below it, which may be nothing."""
+    found = []
+    for row in text.strip().split("\n"):
+        row = row.strip()
+        if row.startswith(">>> "):
+            found.append([row[4:], ""])
+        else:
+            found[-1][1] = row
+    return found
+
+
+def shown(command, names):
+    """What the document would show below a command."""
+    if not isinstance(ast.parse(command).body[0], ast.Expr):
+        exec(command, names)
+        return ""
+    try:
+        value = eval(command, names)
+    except ValueError as error:
+        kept = ", ".join(f"{name}={value!r}" for name, value in vars(error).items())
+        return f"raises {type(error).__name__}({kept})"
+    return "" if value is None else repr(value)
+
+
+class ExamplesTest(unittest.TestCase):
+    def check(self, text):
+        names = {}
+        for command, expected in examples_in(text):
+            with self.subTest(command):
+                self.assertEqual(shown(command, names), expected)
+
+    def test_books(self):
+        self.check(BOOKS)
+
+    def test_matchings(self):
+        self.check(MATCHINGS)
+
+    def test_readme(self):
+        readme = pathlib.Path(__file__).resolve().parent.parent / "README.md"
+        failed, tried = doctest.testfile(str(readme), module_relative=False, encoding="utf-8")
+        self.assertEqual(failed, 0)
+        self.assertGreater(tried, 0)
+
+
+if __name__ == "__main__":
+    unittest.main()
