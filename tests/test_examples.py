@@ -27,6 +27,44 @@ MATCHINGS = r"""
     raises Unpaired(amount=100)
 """
 
+STEPS = r"""
+    >>> from matchlines.steps import best_matching, costs, least_cost, steps
+    >>> own, other = [(1, 0, 100), (2, 4, 100)], [(1, 3, 100), (2, 5, 100)]
+    >>> steps(own, other)
+    [(1, 2, 1), (3, 1, 2)]
+    >>> [best_matching(own, other, 1), best_matching(own, other, 2), list(costs(own, other))]
+    [[(2, 1)], [(1, 1), (2, 2)], [0, 1, 4]]
+    >>> best_matching(own, other, 3)
+    raises BadNumber(value=3)
+"""
+
+PRICES = r"""
+    >>> from matchlines.prices import break_prices, line_prices, matching_at, worth_at
+    >>> own, other = [(1, 0, 100), (2, 4, 100)], [(1, 3, 100), (2, 5, 100)]
+    >>> [matching_at(own, other, 2), matching_at(own, other, 3), worth_at(own, other, 3)]
+    [[(2, 1)], [(1, 1), (2, 2)], 2]
+    >>> [line_prices(own, other), break_prices(own, other)]
+    [({1: 3, 2: 1}, {1: 1, 2: 3}), [1, 3]]
+"""
+
+CERTIFICATES = r"""
+    >>> from matchlines.certificates import certificate, gains, is_certificate
+    >>> own, other = [(1, 0, 100), (2, 4, 100)], [(1, 3, 100), (2, 5, 100)]
+    >>> [gains(own, other, 5), certificate(own, other, 5)]
+    [({1: 2, 2: 4}, {1: 2, 2: 2}), ({1: 2, 2: 4}, {1: 0, 2: 0})]
+    >>> is_certificate(own, other, 5, [(1, 1), (2, 2)], ({1: 2, 2: 4}, {1: 0, 2: 0}))
+    True
+"""
+
+SURE = r"""
+    >>> from matchlines.sure import line_states, pair_states, sure_pairs
+    >>> own, other = [(1, 0, 100), (2, 4, 100)], [(1, 3, 100), (2, 5, 100)]
+    >>> line_states(own, other, 2)
+    ({1: 'never', 2: 'always'}, {1: 'sometimes', 2: 'sometimes'})
+    >>> [sorted(pair_states(own, other, 5).items())[:2], list(sure_pairs(own, other, 5))]
+    [[((1, 1), 'always'), ((1, 2), 'never')], [(1, 1), (2, 2)]]
+"""
+
 
 def examples_in(text):
     """Pairs of a command and of what the document shows below it, which may be nothing."""
@@ -65,6 +103,18 @@ class ExamplesTest(unittest.TestCase):
 
     def test_matchings(self):
         self.check(MATCHINGS)
+
+    def test_steps(self):
+        self.check(STEPS)
+
+    def test_prices(self):
+        self.check(PRICES)
+
+    def test_certificates(self):
+        self.check(CERTIFICATES)
+
+    def test_sure(self):
+        self.check(SURE)
 
     def test_readme(self):
         readme = pathlib.Path(__file__).resolve().parent.parent / "README.md"
