@@ -7,6 +7,7 @@ import unittest
 
 from matchlines import books
 from matchlines.books import amounts_of, is_book, is_line, is_price, lines_of, sequence
+from trying import any_values, wrong_integers
 
 PARAMETERS = {
     "is_line": ["value"],
@@ -16,31 +17,6 @@ PARAMETERS = {
     "lines_of": ["book", "amount"],
     "amounts_of": ["own", "other"],
 }
-
-
-def nested(value, depth, wrap):
-    for _ in range(depth):
-        value = wrap(value)
-    return value
-
-
-def any_values():
-    """Values of every kind that is meant by "any value", none of them a line, a book or a price."""
-    return [
-        None, True, False, -1, -10 ** 29, 10 ** 29, "", "0", "1", "abc", "1 0 100", "\n", " ~",
-        (), (1,), (1, 0), (None, None, None), ("", "", ""), ("1", "0", "100"), ((1, 0, 100),), ((1, 0, 100),) * 3,
-        [1], [1, 0, 100], [[]], [()], [None], ["a", "b", "c"], [[1, 0, 100]],
-        {}, {1: 0}, {1: 2, 2: 3, 3: 4}, {"id": 1, "day": 0, "amount": 100}, {(1, 0, 100): True}, {1: (1, 0, 100)},
-        nested(1, 30, lambda value: (value,)),
-        nested(1, 30, lambda value: [value]),
-        nested(1, 30, lambda value: {"a": value}),
-        nested((1, 0, 100), 29, lambda value: [value]),
-    ]
-
-
-def wrong_integers():
-    """Values that are no integer."""
-    return [True, False, None, "", "1", "100", (), (1,), [], [1], {}, {1: 1}]
 
 
 class InterfaceTest(unittest.TestCase):

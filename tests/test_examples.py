@@ -65,6 +65,41 @@ SURE = r"""
     [[((1, 1), 'always'), ((1, 2), 'never')], [(1, 1), (2, 2)]]
 """
 
+CHANGES = r"""
+    >>> from matchlines.changes import days_with, do_interlace, step_difference
+    >>> own, other = [(1, 0, 100), (2, 4, 100)], [(1, 3, 100), (2, 5, 100)]
+    >>> days_with(own, other, (3, 3, 100), is_own=True)
+    ([1, 3], [0, 1])
+    >>> [do_interlace([1, 3], [0, 1]), do_interlace([1, 3], [2, 2]), step_difference(own, other, 2)]
+    [True, False, ([(2, 1)], [(1, 1), (2, 2)])]
+"""
+
+MOVES = r"""
+    >>> from matchlines.moves import is_move, moves
+    >>> moves([(2, 1)], [(1, 1), (2, 2)])
+    ([[(1, 1), (2, 1), (2, 2)]], [])
+    >>> moves([(1, 1), (2, 2)], [(1, 2), (2, 1)])
+    ([], [[(1, 1), (1, 2), (2, 1), (2, 2)]])
+    >>> is_move([(2, 1)], [(1, 1), (2, 2)], [(2, 1)], [(1, 1), (2, 2)])
+    True
+"""
+
+COMPARISON = r"""
+    >>> from matchlines.comparison import Comparison
+    >>> book = Comparison()
+    >>> book.add_own(1, 0, 100)
+    >>> book.add_own(2, 4, 100)
+    >>> book.add_other(1, 3, 100)
+    >>> book.set_price(2)
+    >>> [book.pairs(), book.left(), book.open_steps()]
+    [[(2, 1)], ([1], []), [(1, 2, 1)]]
+    >>> book.confirm(1, 1)
+    >>> [book.pairs(), book.confirmed, book.left()]
+    [[], [(1, 1)], ([2], [])]
+    >>> book.confirm(2, 1)
+    raises TakenLine(row_id=1)
+"""
+
 
 def examples_in(text):
     """Pairs of a command and of what the document shows below it, which may be nothing."""
@@ -115,6 +150,15 @@ class ExamplesTest(unittest.TestCase):
 
     def test_sure(self):
         self.check(SURE)
+
+    def test_changes(self):
+        self.check(CHANGES)
+
+    def test_moves(self):
+        self.check(MOVES)
+
+    def test_comparison(self):
+        self.check(COMPARISON)
 
     def test_readme(self):
         readme = pathlib.Path(__file__).resolve().parent.parent / "README.md"

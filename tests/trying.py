@@ -1,7 +1,10 @@
 """Small books, all of their matchings, tried one by one, and answers worked out from these, apart from the program."""
 
+import inspect
 import itertools
 import random
+
+from matchlines.errors import MatchError
 
 EXAMPLE_OWN = [(1, 0, 100), (2, 4, 100)]
 EXAMPLE_OTHER = [(1, 3, 100), (2, 5, 100)]
@@ -165,3 +168,50 @@ def plain_bests_of_books(own, other):
             joint[at + by].append((before[0] + more[0], before[1] + more[1]))
         total = [min(choices) for choices in joint]
     return total, places
+
+
+def nested(value, depth, wrap):
+    for _ in range(depth):
+        value = wrap(value)
+    return value
+
+
+def any_values():
+    """Values of every kind that is meant by "any value", none of them a line, a book or a price."""
+    return [
+        None, True, False, -1, -10 ** 29, 10 ** 29, "", "0", "1", "abc", "1 0 100", "\n", " ~",
+        (), (1,), (1, 0), (None, None, None), ("", "", ""), ("1", "0", "100"), ((1, 0, 100),), ((1, 0, 100),) * 3,
+        [1], [1, 0, 100], [[]], [()], [None], ["a", "b", "c"], [[1, 0, 100]],
+        {}, {1: 0}, {1: 2, 2: 3, 3: 4}, {"id": 1, "day": 0, "amount": 100}, {(1, 0, 100): True}, {1: (1, 0, 100)},
+        nested(1, 30, lambda value: (value,)),
+        nested(1, 30, lambda value: [value]),
+        nested(1, 30, lambda value: {"a": value}),
+        nested((1, 0, 100), 29, lambda value: [value]),
+    ]
+
+
+def wrong_integers():
+    """Values that are no integer."""
+    return [True, False, None, "", "1", "100", (), (1,), [], [1], {}, {1: 1}]
+
+
+def check_interface(test, module, parameters):
+    """That these functions are defined in this module itself, with these parameters by name."""
+    for name in parameters:
+        told = getattr(module, name)
+        test.assertEqual((told.__module__, told.__name__), (module.__name__, name))
+        test.assertEqual(list(inspect.signature(told).parameters), parameters[name])
+
+
+def check_raises(test, expected, value, call, *rest, **more):
+    """That a call raises just this error, and that it keeps this value, which is the value itself where it was given."""
+    with test.assertRaises(MatchError) as caught:
+        call(*rest, **more)
+    test.assertIs(type(caught.exception), expected, (rest, more))
+    (kept,) = vars(caught.exception).values()
+    test.assertEqual((type(kept), kept), (type(value), value), (rest, more))
+    given = [*rest, *more.values()]
+    told = [(kept, value)] + (list(zip(kept, value)) if isinstance(value, tuple) else [])
+    for part, expected_part in told:
+        if any(expected_part is one for one in given):
+            test.assertIs(part, expected_part, (rest, more))
