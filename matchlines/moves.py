@@ -5,7 +5,7 @@ from matchlines.changes import pairs_without
 
 def moves(first, second):
     """The chains and the rings of the move from the first matching to the second one."""
-    single = sorted(pairs_without(first, second) + pairs_without(second, first))
+    single = pairs_without(first, second) + pairs_without(second, first)
     by_own = _gathered(single, 0)
     by_other = _gathered(single, 1)
     seen = {}

@@ -19,12 +19,7 @@ FIXED = 0
 
 def line_states(own, other, price):
     """How sure each line is at a price, as two dicts from their ids to words."""
-    pairs = matching_at(own, other, price)
-    own_gains, other_gains = gains_beside(own, other, price, pairs)
-    made = _made_pairs(own, other, price, pairs)
-    own_made = {pair[0]: True for pair in made}
-    other_made = {pair[1]: True for pair in made}
-    return _line_words(own_gains, own_made), _line_words(other_gains, other_made)
+    return states_beside(own, other, price, matching_at(own, other, price))
 
 
 def pair_states(own, other, price):
@@ -49,6 +44,15 @@ def sure_pairs(own, other, price):
     for pair in sorted(states):
         if states[pair] == ALWAYS:
             yield pair
+
+
+def states_beside(own, other, price, pairs):
+    """How sure each line is at a price, given any matching of greatest worth."""
+    own_gains, other_gains = gains_beside(own, other, price, pairs)
+    made = _made_pairs(own, other, price, pairs)
+    own_made = {pair[0]: True for pair in made}
+    other_made = {pair[1]: True for pair in made}
+    return _line_words(own_gains, own_made), _line_words(other_gains, other_made)
 
 
 def _line_words(line_gains, made):

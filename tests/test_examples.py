@@ -100,6 +100,49 @@ COMPARISON = r"""
     raises TakenLine(row_id=1)
 """
 
+REPORTS = r"""
+    >>> from matchlines.comparison import Comparison
+    >>> from matchlines.reports import balance, left_lines, report
+    >>> book = Comparison.made([(1, 0, 100), (2, 4, 100)], [(1, 3, 100), (2, 9, -30)], 2, [])
+    >>> [report(book, 0, 5), balance(book)]
+    [((200, 0, 100, 100), (100, 0, 100, 0)), 130]
+    >>> list(left_lines(book, 0, 9))
+    [('own', (1, 0, 100)), ('other', (2, 9, -30))]
+"""
+
+TEXTS = r"""
+    >>> from matchlines.comparison import Comparison
+    >>> from matchlines.texts import book_text, comparison_text, read_book
+    >>> book_text([(2, 4, -100), (1, 0, 100)])
+    '1 0 100\n2 4 -100'
+    >>> read_book("1 0 100\n1 4 100")
+    raises BadText(value='1 0 100\n1 4 100')
+    >>> comparison_text(Comparison.made([(1, 0, 100)], [(7, 3, 90)], 2, [(1, 7)]))
+    'price 2\nown 1 0 100\nother 7 3 90\npair 1 7'
+"""
+
+CONSOLE = r"""
+    >>> from matchlines.console import Console
+    >>> console = Console()
+    >>> [console.say("own 1 0 100"), console.say("own 2 4 100"), console.say("other 1 3 100"), console.say("price 2")]
+    ['ok', 'ok', 'ok', 'ok']
+    >>> [console.say("pairs"), console.say("left"), console.say("steps"), console.say("report 0 9")]
+    ['2-1', 'own 1 other -', '1:2+1', 'own 200 0 100 100 other 100 0 100 0']
+    >>> console.say("shout")
+    raises BadCommand(command='shout')
+"""
+
+LEVELS = r"""
+    >>> from matchlines.levels import are_levels, highest_levels, levels_total, lowest_levels, marks
+    >>> own, other = [(1, 0, 100), (2, 4, 100)], [(1, 3, 100), (2, 5, 100)]
+    >>> sorted(lowest_levels(own, other, 100, 5).items())
+    [(0, 0), (3, 3), (4, 2), (5, 3)]
+    >>> [levels_total(own, other, 100, 5, lowest_levels(own, other, 100, 5)), are_levels(own, other, 100, 5, {0: 0, 3: 4, 4: 2, 5: 3})]
+    [6, False]
+    >>> marks(own, other)
+    ({1: (3, 3, 4), 2: (1, 1, 2)}, {1: (1, 1, 4), 2: (1, 3, 4)})
+"""
+
 
 def examples_in(text):
     """Pairs of a command and of what the document shows below it, which may be nothing."""
@@ -159,6 +202,18 @@ class ExamplesTest(unittest.TestCase):
 
     def test_comparison(self):
         self.check(COMPARISON)
+
+    def test_reports(self):
+        self.check(REPORTS)
+
+    def test_texts(self):
+        self.check(TEXTS)
+
+    def test_console(self):
+        self.check(CONSOLE)
+
+    def test_levels(self):
+        self.check(LEVELS)
 
     def test_readme(self):
         readme = pathlib.Path(__file__).resolve().parent.parent / "README.md"

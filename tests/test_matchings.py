@@ -5,6 +5,7 @@ import inspect
 import itertools
 import unittest
 
+import trying
 from matchlines import matchings
 from matchlines.errors import MatchError, Unpaired
 from matchlines.matchings import (
@@ -27,12 +28,6 @@ OTHER = [(12, 25, 100), (11, 23, 100), (13, 26, -50), (14, 30, 900), (15, 40, 10
 POSSIBLE = [(own_id, other_id) for own_id in (1, 3) for other_id in (11, 12, 15)] + [(2, 13)]
 
 
-def nested(value, depth, wrap):
-    for _ in range(depth):
-        value = wrap(value)
-    return value
-
-
 def any_values():
     """Values of every kind that is meant by "any value", none of them a pair or a matching."""
     return [
@@ -40,9 +35,9 @@ def any_values():
         (), (1,), (11,), (1, 11, 100), (1, 11, 11), (None, None), ("1", "11"), ("", ""), ((1, 11),), ((1, 11), (3, 12)),
         [1], [1, 11], ["ab"], [[]], [()], [None], [[1, 11]], [[[1, 11]]], [1, 11, 3, 12],
         {}, {1: 11}, {1: True, 11: True}, {(1, 11): True}, {"own": 1, "other": 11},
-        nested((1, 11), 29, lambda value: (value,)),
-        nested((1, 11), 29, lambda value: [value]),
-        nested((1, 11), 29, lambda value: {"a": value}),
+        trying.nested((1, 11), 29, lambda value: (value,)),
+        trying.nested((1, 11), 29, lambda value: [value]),
+        trying.nested((1, 11), 29, lambda value: {"a": value}),
     ]
 
 
